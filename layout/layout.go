@@ -2,6 +2,7 @@
 package layout
 
 import (
+	"iter"
 	"slices"
 
 	"mill/api"
@@ -62,6 +63,13 @@ func width(c api.Config, tier int) int {
 	return c.Tiers[tier].Width
 }
 
+func keep(c api.Config, tier int) int {
+	if tier == Raw {
+		return c.Keep
+	}
+	return c.Tiers[tier].Keep
+}
+
 // Layout is a right configuration that nobody else can write into.
 type Layout struct {
 	config api.Config
@@ -72,6 +80,12 @@ func New(c api.Config) Layout {
 	c.Tiers = slices.Clone(c.Tiers)
 	return Layout{config: c}
 }
+
+// HasSlot tells whether there is such a slot.
+func (l Layout) HasSlot(slot int) bool { return within(slot, 0, l.config.Slots-1) }
+
+// Lease tells how long a lease is.
+func (l Layout) Lease() int { return l.config.Lease }
 
 // Lag tells how long a window waits for late numbers.
 func (l Layout) Lag() int { return l.config.Lag }
@@ -91,9 +105,27 @@ func (l Layout) Window(tier, at int) int { return at / width(l.config, tier) }
 // End tells the first time behind a window.
 func (l Layout) End(tier, window int) int { return (window + 1) * width(l.config, tier) }
 
+// Closed tells whether a window takes no numbers any more.
+func (l Layout) Closed(tier, window, now int) bool { return l.End(tier, window) <= now-l.Lag() }
+
+// KeptUntil tells from when on a window's segments need not be kept.
+func (l Layout) KeptUntil(tier, window int) int { return l.End(tier, window) + keep(l.config, tier) }
+
 // Below tells of which tier a tier is made, and which windows of that, from the first up to and without the second, are in a window of it.
 func (l Layout) Below(tier, window int) (from, first, end int) {
 	from = l.config.Tiers[tier].From
 	many := width(l.config, tier) / width(l.config, from)
 	return from, window * many, (window + 1) * many
+}
+
+// Above goes through the tiers that are made of a tier, with the window of each that a window of that tier is in.
+func (l Layout) Above(tier, window int) iter.Seq2[int, int] {
+	start := window * width(l.config, tier)
+	return func(yield func(int, int) bool) {
+		for number, t := range l.config.Tiers {
+			if t.From == tier && !yield(number, start/t.Width) {
+				return
+			}
+		}
+	}
 }

@@ -165,3 +165,60 @@ func TestWindows(t *testing.T) {
 		}
 	}
 }
+
+// Closed is at most NOW less Lag; what is kept is so up to its end and its tier's Keep.
+func TestTimes(t *testing.T) {
+	l := New(small())
+	for _, w := range []struct{ tier, window, closed, kept int }{{-1, 0, 7, 15}, {-1, 3, 22, 30}, {0, 0, 12, 110}, {1, 1, 42, 140}} {
+		if l.Closed(w.tier, w.window, w.closed-1) || !l.Closed(w.tier, w.window, w.closed) || !l.Closed(w.tier, w.window, w.closed+1) {
+			t.Errorf("window %d of tier %d is not closed from %d on", w.window, w.tier, w.closed)
+		}
+		if n := l.KeptUntil(w.tier, w.window); n != w.kept {
+			t.Errorf("KeptUntil(%d, %d) = %d, want %d", w.tier, w.window, n, w.kept)
+		}
+	}
+	if n := l.Lease(); n != 5 {
+		t.Errorf("Lease = %d, want 5", n)
+	}
+}
+
+func TestSlots(t *testing.T) {
+	for slots := 1; slots <= 4; slots++ {
+		l := New(with(func(c *api.Config) { c.Slots = slots }))
+		for _, slot := range []int{math.MinInt, -1, 0, 1, 2, 3, 4, math.MaxInt} {
+			if want := slot >= 0 && slot < slots; l.HasSlot(slot) != want {
+				t.Errorf("of %d slots HasSlot(%d) = %v", slots, slot, !want)
+			}
+		}
+	}
+}
+
+// Above and Below tell the same, from both ends.
+func TestAbove(t *testing.T) {
+	l := New(with(func(c *api.Config) {
+		c.Tiers = []api.Tier{{From: 2, Width: 40}, {From: -1, Width: 5}, {From: -1, Width: 20}, {From: 2, Width: 60}}
+	}))
+	for tier := -1; tier < 4; tier++ {
+		for window := range 30 {
+			got := map[[2]int]int{}
+			for above, w := range l.Above(tier, window) {
+				got[[2]int{above, w}]++
+			}
+			for above := range 4 {
+				for w := range 30 {
+					from, first, end := l.Below(above, w)
+					want := 0
+					if from == tier && first <= window && window < end {
+						want = 1
+					}
+					if n := got[[2]int{above, w}]; n != want {
+						t.Errorf("Above(%d, %d) tells %d, %d %d times, want %d", tier, window, above, w, n, want)
+					}
+				}
+			}
+		}
+	}
+	for range l.Above(-1, 0) {
+		break
+	}
+}

@@ -17,14 +17,20 @@ func Sum[T any, N Number](list iter.Seq[T], of func(T) N) N {
 	return sum
 }
 
+// Where goes through those of which something holds.
+func Where[T any](list iter.Seq[T], holds func(T) bool) iter.Seq[T] {
+	return func(yield func(T) bool) {
+		for e := range list {
+			if holds(e) && !yield(e) {
+				return
+			}
+		}
+	}
+}
+
 // Count tells of how many something holds.
 func Count[T any](list iter.Seq[T], holds func(T) bool) int {
-	return Sum(list, func(e T) int {
-		if holds(e) {
-			return 1
-		}
-		return 0
-	})
+	return Sum(Where(list, holds), func(T) int { return 1 })
 }
 
 // First tells the one that is ahead of all others, and whether there is any. Of those that an order does not tell apart it is any one: a caller whose list has no order of its own gives an order that tells all apart, or asks only for what they share.

@@ -29,6 +29,22 @@ func TestCount(t *testing.T) {
 	}
 }
 
+func TestWhere(t *testing.T) {
+	odd := func(n int) bool { return n%2 == 1 }
+	if got := slices.Collect(Where(slices.Values([]int{2, 1, 4, 3, 5, 6}), odd)); !slices.Equal(got, []int{1, 3, 5}) {
+		t.Errorf("Where = %v, want 1, 3, 5", got)
+	}
+	for n := range Where(slices.Values([]int{2, 3, 5}), odd) {
+		if n != 3 {
+			t.Errorf("Where goes on to %d behind a break", n)
+		}
+		break
+	}
+	if got := slices.Collect(Where(slices.Values([]int{2}), odd)); len(got) != 0 {
+		t.Errorf("Where = %v, want nothing", got)
+	}
+}
+
 func TestFirst(t *testing.T) {
 	for _, list := range [][]int{{1, 2, 3}, {3, 2, 1}, {2, 1, 3}, {1}} {
 		if n, ok := First(slices.Values(list), cmp.Compare[int]); n != 1 || !ok {

@@ -4,6 +4,7 @@ package mill
 import (
 	"mill/api"
 	"mill/disk"
+	"mill/job"
 	"mill/journal"
 	"mill/layout"
 	"mill/segment"
@@ -15,6 +16,7 @@ type Mill struct {
 	epoch    int
 	now      int
 	segments *segment.Set
+	board    *job.Board
 }
 
 // Right tells whether a configuration is right (P3).
@@ -35,7 +37,7 @@ func Open(c api.Config, d *disk.Disk) (*Mill, api.Errno) {
 		return nil, api.ErrDown
 	}
 	l := layout.New(c)
-	return &Mill{layout: l, epoch: epoch, segments: segment.New(l)}, api.OK
+	return &Mill{layout: l, epoch: epoch, segments: segment.New(l), board: job.New(l, epoch)}, api.OK
 }
 
 // Ingest takes a number (P4).
@@ -63,24 +65,69 @@ func (m *Mill) Tick(n int) api.Errno {
 		return api.ErrTime
 	}
 	m.now += n
+	m.board.Expire(m.now)
+	m.post()
 	return api.OK
 }
 
+// post is called behind whatever makes jobs ready: time that goes by, and jobs that are done. (A number makes none: its windows are not closed.)
+func (m *Mill) post() {
+	for k := range m.segments.Rollable(m.now) {
+		m.board.Post(job.Roll{Of: k}, m.now)
+	}
+	for k := range m.segments.Reclaimable(m.now) {
+		m.board.Post(job.Reclaim{Of: k}, m.now)
+	}
+}
+
 // Pick gives a slot a job (P7).
-func (m *Mill) Pick(slot int) (api.Job, api.Errno) { return api.Job{}, api.OK }
+func (m *Mill) Pick(slot int) (api.Job, api.Errno) {
+	if !m.layout.HasSlot(slot) || m.board.Busy(slot) {
+		return api.Job{}, api.ErrSlot
+	}
+	picked, ok := m.board.Pick(slot, m.now, m.tight())
+	if !ok {
+		return api.Job{}, api.ErrIdle
+	}
+	return picked, api.OK
+}
 
 // Commit does a job (P8).
-func (m *Mill) Commit(t api.Token) api.Errno { return api.OK }
+func (m *Mill) Commit(t api.Token) api.Errno {
+	leased, ok := m.board.Leased(t)
+	if !ok {
+		return api.ErrFenced
+	}
+	m.do(leased)
+	m.board.Done(t)
+	m.post()
+	return api.OK
+}
+
+func (m *Mill) do(j job.Job) {
+	switch j := j.(type) {
+	case job.Roll:
+		m.segments.Publish(j.Of)
+	case job.Reclaim:
+		m.segments.Reclaim(j.Of)
+	}
+}
 
 // Fail gives a job back (P8).
-func (m *Mill) Fail(t api.Token) api.Errno { return api.OK }
+func (m *Mill) Fail(t api.Token) api.Errno {
+	if _, ok := m.board.Leased(t); !ok {
+		return api.ErrFenced
+	}
+	m.board.Fail(t, m.now)
+	return api.OK
+}
 
 // Query tells a segment (P6).
 func (m *Mill) Query(tier int, series int, window int) (api.Cell, api.Errno) {
 	if !m.layout.Has(tier) || !isSeries(series) || window < 0 || window > api.MaxNow {
 		return api.Cell{}, api.ErrArg
 	}
-	if !m.closed(tier, window) {
+	if !m.layout.Closed(tier, window, m.now) {
 		return api.Cell{}, api.ErrOpen
 	}
 	state, cell := m.segments.Find(segment.Key{Tier: tier, Series: series, Window: window})
@@ -95,32 +142,25 @@ func (m *Mill) Query(tier int, series int, window int) (api.Cell, api.Errno) {
 	return cell, api.OK
 }
 
-func (m *Mill) closed(tier, window int) bool {
-	return m.layout.End(tier, window) <= m.now-m.layout.Lag()
-}
-
 // Jobs tells what is to be done (P9).
-func (m *Mill) Jobs() []api.Job { return nil }
+func (m *Mill) Jobs() []api.Job { return m.board.List() }
 
 // Stats tells how it is (P9).
 func (m *Mill) Stats() api.Stats {
-	used := m.segments.Used()
-	return api.Stats{
+	out := api.Stats{
 		Now:       m.now,
-		Used:      used,
-		Tight:     tight(used, m.layout.Quota()),
+		Used:      m.segments.Used(),
 		Epoch:     m.epoch,
 		Held:      m.segments.Count(segment.Held),
 		Waiting:   m.segments.Count(segment.Waiting),
 		Published: m.segments.Count(segment.Published),
 		Gone:      m.segments.Count(segment.Reclaimed),
 	}
+	if m.tight() {
+		out.Tight = 1
+	}
+	return out
 }
 
-// tight is 1 if more than three quarters of the quota are used, else 0.
-func tight(used, quota int) int {
-	if 4*used > 3*quota {
-		return 1
-	}
-	return 0
-}
+// tight tells whether more than three quarters of the quota are used.
+func (m *Mill) tight() bool { return 4*m.segments.Used() > 3*m.layout.Quota() }

@@ -6,22 +6,7 @@ import (
 
 	"mill/api"
 	"mill/disk"
-	"mill/segment"
 )
-
-// DOC.md's first example, up to the first Pick.
-func TestExample(t *testing.T) {
-	m := open(t, example(), disk.New())
-	ingest(t, m, 0, 0, 7, api.OK)
-	stats(t, m, api.Stats{Used: 5, Held: 1, Waiting: 2})
-	tick(t, m, 1, api.OK)
-	ingest(t, m, 0, 1, -3, api.OK)
-	stats(t, m, api.Stats{Now: 1, Used: 6, Held: 1, Waiting: 2})
-	query(t, m, -1, 0, 0, api.Cell{}, api.ErrOpen)
-	tick(t, m, 11, api.OK)
-	query(t, m, 0, 0, 0, api.Cell{}, api.ErrWait)
-	query(t, m, -1, 0, 0, api.Cell{Count: 2, Sum: 4, Min: -3, Max: 7}, api.OK)
-}
 
 // P4: each error at its edges, and the one named first where several apply.
 func TestIngestErrors(t *testing.T) {
@@ -181,25 +166,33 @@ func TestWideSums(t *testing.T) {
 	query(t, m, -1, 1, 0, api.Cell{Count: 3, Sum: 3 * math.MinInt32, Min: math.MinInt32, Max: math.MinInt32}, api.OK)
 }
 
-// P6, P9: segments that are published or reclaimed, which no call makes yet.
+// P6, P9: a cell is told once it is published, until it is reclaimed; it outlives what it was made of.
 func TestPublishedAndReclaimed(t *testing.T) {
-	m := open(t, example(), disk.New())
+	c := example()
+	c.Tiers[0].Keep = 5
+	m := open(t, c, disk.New())
 	ingest(t, m, 0, 0, 7, api.OK)
 	tick(t, m, 7, api.OK)
 	ingest(t, m, 0, 5, -3, api.OK)
-	tick(t, m, 15, api.OK)
+	tick(t, m, 12, api.OK)
 	cell := api.Cell{Count: 2, Sum: 4, Min: -3, Max: 7}
-	m.segments.Publish(segment.Key{Tier: 0})
+	do(t, m, ready(api.Roll, 0, 0, 0, 19))
 	query(t, m, 0, 0, 0, cell, api.OK)
-	query(t, m, 1, 0, 0, api.Cell{}, api.ErrWait)
-	stats(t, m, api.Stats{Now: 22, Used: 6, Held: 2, Waiting: 1, Published: 1})
-	m.segments.Reclaim(segment.Key{Tier: -1})
+	query(t, m, 1, 0, 0, api.Cell{}, api.ErrOpen)
+	stats(t, m, api.Stats{Now: 19, Used: 6, Held: 2, Waiting: 1, Published: 1})
+	do(t, m, ready(api.Reclaim, -1, 0, 0, 19))
 	query(t, m, -1, 0, 0, api.Cell{}, api.ErrGone)
 	query(t, m, -1, 0, 1, api.Cell{Count: 1, Sum: -3, Min: -3, Max: -3}, api.OK)
-	stats(t, m, api.Stats{Now: 22, Used: 5, Held: 1, Waiting: 1, Published: 1, Gone: 1})
-	m.segments.Publish(segment.Key{Tier: 1})
-	m.segments.Reclaim(segment.Key{Tier: 0})
+	query(t, m, 0, 0, 0, cell, api.OK)
+	stats(t, m, api.Stats{Now: 19, Used: 5, Held: 1, Waiting: 1, Published: 1, Gone: 1})
+	jobs(t, m)
+	tick(t, m, 3, api.OK)
+	query(t, m, 1, 0, 0, api.Cell{}, api.ErrWait)
+	do(t, m, ready(api.Roll, 1, 0, 0, 22), ready(api.Reclaim, 0, 0, 0, 22), ready(api.Reclaim, -1, 0, 1, 22)) // DUE 20, 15, 20
 	query(t, m, 1, 0, 0, cell, api.OK)
 	query(t, m, 0, 0, 0, api.Cell{}, api.ErrGone)
-	stats(t, m, api.Stats{Now: 22, Used: 3, Held: 1, Published: 1, Gone: 2})
+	query(t, m, -1, 0, 1, api.Cell{}, api.ErrGone)
+	stats(t, m, api.Stats{Now: 22, Used: 2, Published: 1, Gone: 3})
+	ingest(t, m, 0, 20, 1, api.OK)
+	stats(t, m, api.Stats{Now: 22, Used: 7, Held: 1, Waiting: 2, Published: 1, Gone: 3})
 }

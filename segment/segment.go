@@ -86,6 +86,8 @@ func (s *Set) missing(k Key) bool {
 	return state == Missing
 }
 
+func (s *Set) waits(k Key) bool { return s.live[k].state == Waiting }
+
 // cellsOf goes through the segments of all tiers that a number is in.
 func (s *Set) cellsOf(series, at int) iter.Seq[Key] {
 	return func(yield func(Key) bool) {
@@ -137,6 +139,44 @@ func (s *Set) standsOn(k Key) []api.Cell {
 func (s *Set) Reclaim(k Key) {
 	delete(s.live, k)
 	s.gone[k] = struct{}{}
+}
+
+// Rollable goes through the segments whose cell can be made: they wait and are closed, and none that they stand on waits.
+func (s *Set) Rollable(now int) iter.Seq[Key] {
+	blocked := s.blocked()
+	return lists.Where(maps.Keys(s.live), func(k Key) bool {
+		_, ok := blocked[k]
+		return !ok && s.waits(k) && s.layout.Closed(k.Tier, k.Window, now)
+	})
+}
+
+// blocked has the segments that stand on one that waits. They are found from below: few hang on a segment, while a thousand windows may be in its own.
+func (s *Set) blocked() map[Key]struct{} {
+	out := map[Key]struct{}{}
+	for k := range lists.Where(maps.Keys(s.live), s.waits) {
+		for above := range s.hangOn(k) {
+			out[above] = struct{}{}
+		}
+	}
+	return out
+}
+
+// Reclaimable goes through the segments that can be given up: they are held or published, were kept long enough, and none that hangs on them waits.
+func (s *Set) Reclaimable(now int) iter.Seq[Key] {
+	return lists.Where(maps.Keys(s.live), func(k Key) bool {
+		return !s.waits(k) && s.layout.KeptUntil(k.Tier, k.Window) <= now && lists.Count(s.hangOn(k), s.waits) == 0
+	})
+}
+
+// hangOn goes through the segments that hang on one that is there: they are there too, for its numbers are theirs.
+func (s *Set) hangOn(k Key) iter.Seq[Key] {
+	return func(yield func(Key) bool) {
+		for tier, window := range s.layout.Above(k.Tier, k.Window) {
+			if !yield(Key{Tier: tier, Series: k.Series, Window: window}) {
+				return
+			}
+		}
+	}
 }
 
 // join makes one cell of at least one.

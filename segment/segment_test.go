@@ -1,6 +1,8 @@
 package segment
 
 import (
+	"iter"
+	"maps"
 	"testing"
 
 	"mill/api"
@@ -93,4 +95,67 @@ func TestReclaimedIsNotMissing(t *testing.T) {
 	if n := s.Cost(0, 0); n != 1 {
 		t.Errorf("Cost = %d, want 1", n)
 	}
+}
+
+func keys(t *testing.T, what string, got iter.Seq[Key], want ...Key) {
+	t.Helper()
+	times := map[Key]int{}
+	for k := range got {
+		times[k]++
+	}
+	wanted := map[Key]int{}
+	for _, k := range want {
+		wanted[k]++
+	}
+	if !maps.Equal(times, wanted) {
+		t.Fatalf("%s = %v, want %v", what, times, want)
+	}
+}
+
+// kept is fresh, with a Lag, and a Keep for each tier.
+func kept() *Set {
+	return New(layout.New(api.Config{Slots: 1, Lease: 1, Lag: 2, Width: 5, Keep: 1, Quota: 100, Tiers: []api.Tier{{From: -1, Width: 10, Keep: 40}, {From: 0, Width: 20, Keep: 3}, {From: -1, Width: 15}}}))
+}
+
+// A segment can be rolled once it is closed and nothing that it stands on waits; once, and of its own series alone.
+func TestRollable(t *testing.T) {
+	s := kept()
+	keys(t, "Rollable", s.Rollable(1000))
+	s.Add(0, 0, 1)
+	s.Add(0, 10, 1)
+	s.Add(1, 9, 1)
+	keys(t, "Rollable", s.Rollable(11))
+	keys(t, "Rollable", s.Rollable(12), Key{0, 0, 0}, Key{0, 1, 0})
+	keys(t, "Rollable", s.Rollable(17), Key{0, 0, 0}, Key{0, 1, 0}, Key{2, 0, 0}, Key{2, 1, 0})
+	keys(t, "Rollable", s.Rollable(22), Key{0, 0, 0}, Key{0, 0, 1}, Key{0, 1, 0}, Key{2, 0, 0}, Key{2, 1, 0})
+	s.Publish(Key{0, 0, 0})
+	keys(t, "Rollable", s.Rollable(22), Key{0, 0, 1}, Key{0, 1, 0}, Key{2, 0, 0}, Key{2, 1, 0})
+	s.Publish(Key{0, 1, 0})
+	keys(t, "Rollable", s.Rollable(21), Key{2, 0, 0}, Key{2, 1, 0})
+	keys(t, "Rollable", s.Rollable(22), Key{0, 0, 1}, Key{1, 1, 0}, Key{2, 0, 0}, Key{2, 1, 0})
+	s.Publish(Key{0, 0, 1})
+	keys(t, "Rollable", s.Rollable(22), Key{1, 0, 0}, Key{1, 1, 0}, Key{2, 0, 0}, Key{2, 1, 0})
+}
+
+// A segment can be given up once it was kept long enough and all that hang on it are made, whether these are there still or not.
+func TestReclaimable(t *testing.T) {
+	s := kept()
+	s.Add(0, 0, 1)
+	s.Add(0, 6, 1)
+	keys(t, "Reclaimable", s.Reclaimable(1000))
+	s.Publish(Key{0, 0, 0})
+	keys(t, "Reclaimable", s.Reclaimable(1000))
+	s.Publish(Key{2, 0, 0})
+	keys(t, "Reclaimable", s.Reclaimable(5))
+	keys(t, "Reclaimable", s.Reclaimable(6), Key{-1, 0, 0})
+	keys(t, "Reclaimable", s.Reclaimable(11), Key{-1, 0, 0}, Key{-1, 0, 1})
+	keys(t, "Reclaimable", s.Reclaimable(1000), Key{-1, 0, 0}, Key{-1, 0, 1}, Key{2, 0, 0})
+	s.Publish(Key{1, 0, 0})
+	keys(t, "Reclaimable", s.Reclaimable(49), Key{-1, 0, 0}, Key{-1, 0, 1}, Key{2, 0, 0}, Key{1, 0, 0})
+	s.Reclaim(Key{2, 0, 0})
+	s.Reclaim(Key{1, 0, 0})
+	keys(t, "Reclaimable", s.Reclaimable(49), Key{-1, 0, 0}, Key{-1, 0, 1})
+	keys(t, "Reclaimable", s.Reclaimable(50), Key{-1, 0, 0}, Key{-1, 0, 1}, Key{0, 0, 0})
+	s.Reclaim(Key{-1, 0, 0})
+	keys(t, "Reclaimable", s.Reclaimable(50), Key{-1, 0, 1}, Key{0, 0, 0})
 }
