@@ -56,16 +56,18 @@ func (b *Board) Busy(slot int) bool {
 	return lists.Count(maps.Values(b.leases), func(g lease) bool { return g.slot == slot }) > 0
 }
 
-// Pick leases the first of the jobs that can be picked to a slot that is not busy; if there is one.
-func (b *Board) Pick(slot, now int, tight bool) (api.Job, bool) {
+// Next tells the first of the jobs that can be picked, if there is one.
+func (b *Board) Next(now int, tight bool) (Job, bool) {
 	free := lists.Where(maps.Values(b.tasks), func(t task) bool { return t.rest <= now && !b.leased(t) })
 	first, ok := lists.First(free, b.order(now, tight))
-	if !ok {
-		return api.Job{}, false
-	}
+	return first.job, ok
+}
+
+// Lease leases a job that can be picked to a slot that is not busy.
+func (b *Board) Lease(j Job, slot, now int) api.Job {
 	b.number++
-	b.leases[api.Token{Epoch: b.epoch, Number: b.number}] = lease{job: keyOf(first.job), slot: slot, until: now + b.layout.Lease()}
-	return b.tell(first), true
+	b.leases[api.Token{Epoch: b.epoch, Number: b.number}] = lease{job: keyOf(j), slot: slot, until: now + b.layout.Lease()}
+	return b.tell(b.tasks[keyOf(j)])
 }
 
 func (b *Board) leased(t task) bool {
@@ -86,12 +88,7 @@ func (b *Board) order(now int, tight bool) func(x, y task) int {
 // byKey tells all jobs apart, so that no choice hangs on the order in which a map is gone through.
 func byKey(x, y task) int {
 	j, k := keyOf(x.job), keyOf(y.job)
-	return cmp.Or(
-		cmp.Compare(j.kind, k.kind),
-		cmp.Compare(j.segment.Tier, k.segment.Tier),
-		cmp.Compare(j.segment.Series, k.segment.Series),
-		cmp.Compare(j.segment.Window, k.segment.Window),
-	)
+	return cmp.Or(cmp.Compare(j.kind, k.kind), segment.Order(j.segment, k.segment))
 }
 
 // Leased tells the job that is leased with a token, if there is one.

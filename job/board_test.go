@@ -25,21 +25,24 @@ func reclaim(tier, series, window int) Job {
 // pick wants a certain job to be picked.
 func pick(t *testing.T, b *Board, slot, now int, tight bool, want Job) api.Token {
 	t.Helper()
-	got, ok := b.Pick(slot, now, tight)
-	k := want.Segment()
-	if !ok || got.Kind != want.Kind() || (segment.Key{Tier: got.Tier, Series: got.Series, Window: got.Window}) != k {
-		t.Fatalf("P7: Pick at %d = %+v, %v, want %T %+v", now, got, ok, want, k)
+	next, ok := b.Next(now, tight)
+	if !ok || next != want {
+		t.Fatalf("P7: Next at %d = %T %+v, %v, want %T %+v", now, next, next, ok, want, want)
+	}
+	got := b.Lease(next, slot, now)
+	if got.Kind != want.Kind() || (segment.Key{Tier: got.Tier, Series: got.Series, Window: got.Window}) != want.Segment() {
+		t.Fatalf("P7: Lease at %d = %+v, want %T %+v", now, got, want, want)
 	}
 	if got.Slot != slot || got.Until != now+5 || got.Token.Epoch != 7 {
-		t.Fatalf("P7: Pick at %d = %+v, want slot %d, until %d, epoch 7", now, got, slot, now+5)
+		t.Fatalf("P7: Lease at %d = %+v, want slot %d, until %d, epoch 7", now, got, slot, now+5)
 	}
 	return got.Token
 }
 
 func none(t *testing.T, b *Board, now int) {
 	t.Helper()
-	if got, ok := b.Pick(0, now, false); ok || got != (api.Job{}) {
-		t.Fatalf("P7: Pick at %d = %+v, %v, want none", now, got, ok)
+	if got, ok := b.Next(now, false); ok || got != nil {
+		t.Fatalf("P7: Next at %d = %+v, %v, want none", now, got, ok)
 	}
 }
 

@@ -2,11 +2,14 @@
 package mill
 
 import (
+	"iter"
+
 	"mill/api"
 	"mill/disk"
 	"mill/job"
 	"mill/journal"
 	"mill/layout"
+	"mill/record"
 	"mill/segment"
 )
 
@@ -17,6 +20,8 @@ type Mill struct {
 	now      int
 	segments *segment.Set
 	board    *job.Board
+	journal  *journal.Journal
+	down     bool // a call was answered ErrDown
 }
 
 // Right tells whether a configuration is right (P3).
@@ -37,7 +42,49 @@ func Open(c api.Config, d *disk.Disk) (*Mill, api.Errno) {
 		return nil, api.ErrDown
 	}
 	l := layout.New(c)
-	return &Mill{layout: l, epoch: epoch, segments: segment.New(l), board: job.New(l, epoch)}, api.OK
+	m := &Mill{layout: l, epoch: epoch, segments: segment.New(l), board: job.New(l, epoch), journal: journal.New(d)}
+	m.recall(journal.Records(d))
+	if !m.renew() {
+		return nil, api.ErrDown
+	}
+	m.post()
+	return m, api.OK
+}
+
+// recall goes up to what somebody else wrote: on such a disk nothing is promised, but that no call panics.
+func (m *Mill) recall(lines iter.Seq[string]) {
+	for line := range lines {
+		r, ok := record.Read(line, m.layout)
+		if !ok {
+			return
+		}
+		m.take(r)
+	}
+}
+
+func (m *Mill) take(r record.Record) {
+	m.now = r.Now
+	m.segments.Put(r.Segments)
+}
+
+// renew lays down all that is so, in place of how it came to be so.
+func (m *Mill) renew() bool {
+	return m.journal.Renew(record.Write(record.Record{Now: m.now, Segments: m.segments.All()}))
+}
+
+// settle makes safe what a call comes to, and only then lets it be so.
+func (m *Mill) settle(now int, changed []segment.Segment) api.Errno {
+	r := record.Record{Now: now, Segments: changed}
+	if !m.journal.Lay(record.Write(r)) {
+		m.down = true
+		return api.ErrDown
+	}
+	m.take(r)
+	if m.journal.Long() {
+		// The call is safe already: if the disk refuses this, it is the next one that can't be.
+		m.renew()
+	}
+	return api.OK
 }
 
 // Ingest takes a number (P4).
@@ -52,8 +99,7 @@ func (m *Mill) Ingest(series int, at int, value int32) api.Errno {
 	case m.segments.Used()+m.segments.Cost(series, at) > m.layout.Quota():
 		return api.ErrFull
 	}
-	m.segments.Add(series, at, value)
-	return api.OK
+	return m.settle(m.now, m.segments.Added(series, at, value))
 }
 
 func isSeries(series int) bool { return series >= 0 && series < api.MaxSeries }
@@ -64,7 +110,9 @@ func (m *Mill) Tick(n int) api.Errno {
 	if n < 1 || n > api.MaxTick || m.now+n > api.MaxNow {
 		return api.ErrTime
 	}
-	m.now += n
+	if e := m.settle(m.now+n, nil); e != api.OK {
+		return e
+	}
 	m.board.Expire(m.now)
 	m.post()
 	return api.OK
@@ -85,11 +133,14 @@ func (m *Mill) Pick(slot int) (api.Job, api.Errno) {
 	if !m.layout.HasSlot(slot) || m.board.Busy(slot) {
 		return api.Job{}, api.ErrSlot
 	}
-	picked, ok := m.board.Pick(slot, m.now, m.tight())
+	next, ok := m.board.Next(m.now, m.tight())
 	if !ok {
 		return api.Job{}, api.ErrIdle
 	}
-	return picked, api.OK
+	if m.down {
+		return api.Job{}, api.ErrDown
+	}
+	return m.board.Lease(next, slot, m.now), api.OK
 }
 
 // Commit does a job (P8).
@@ -98,25 +149,32 @@ func (m *Mill) Commit(t api.Token) api.Errno {
 	if !ok {
 		return api.ErrFenced
 	}
-	m.do(leased)
+	if e := m.settle(m.now, m.done(leased)); e != api.OK {
+		return e
+	}
 	m.board.Done(t)
 	m.post()
 	return api.OK
 }
 
-func (m *Mill) do(j job.Job) {
+// done tells what changes with a job that is done.
+func (m *Mill) done(j job.Job) []segment.Segment {
 	switch j := j.(type) {
 	case job.Roll:
-		m.segments.Publish(j.Of)
+		return []segment.Segment{m.segments.Rolled(j.Of)}
 	case job.Reclaim:
-		m.segments.Reclaim(j.Of)
+		return []segment.Segment{{Key: j.Of, State: segment.Reclaimed}}
 	}
+	return nil
 }
 
 // Fail gives a job back (P8).
 func (m *Mill) Fail(t api.Token) api.Errno {
 	if _, ok := m.board.Leased(t); !ok {
 		return api.ErrFenced
+	}
+	if m.down {
+		return api.ErrDown
 	}
 	m.board.Fail(t, m.now)
 	return api.OK

@@ -2,6 +2,7 @@ package mill
 
 import (
 	"cmp"
+	"maps"
 	"math/rand"
 	"slices"
 	"testing"
@@ -27,6 +28,30 @@ type spot struct{ tier, series, window int }
 
 func newModel(c api.Config, epoch int) *model {
 	return &model{c: c, epoch: epoch, numbers: map[spot][]int32{}, published: map[spot]bool{}, reclaimed: map[spot]bool{}}
+}
+
+// clone shares nothing with the model that it is of.
+func (o *model) clone() *model {
+	out := *o
+	out.numbers = map[spot][]int32{}
+	for s, values := range o.numbers {
+		out.numbers[s] = slices.Clone(values)
+	}
+	out.published, out.reclaimed = maps.Clone(o.published), maps.Clone(o.reclaimed)
+	out.work = nil
+	for _, j := range o.work {
+		job := *j
+		out.work = append(out.work, &job)
+	}
+	return &out
+}
+
+// reopened is the model of a mill that is opened on what is left of this one's.
+func (o *model) reopened(epoch int) *model {
+	out := o.clone()
+	out.epoch, out.picks, out.work = epoch, 0, nil
+	out.settle()
+	return out
 }
 
 func (o *model) tier(tier int) api.Tier {
@@ -307,11 +332,20 @@ func turned(c api.Config, r *rand.Rand) api.Config {
 type drive struct {
 	t      *testing.T
 	r      *rand.Rand
+	d      *disk.Disk
 	m      *Mill
 	o      *model
+	lost   bool        // a call was answered ErrDown
 	tokens []api.Token // of all picks, and one that was never given
 	marks  []spot      // raw segments that are there
 	seen   map[string]map[api.Errno]int
+}
+
+func newDrive(t *testing.T, seed int64) *drive {
+	r, d := rand.New(rand.NewSource(seed)), disk.New()
+	c := someConfig(r)
+	m := open(t, c, d)
+	return &drive{t: t, r: r, d: d, m: m, o: newModel(c, m.Stats().Epoch), tokens: []api.Token{{}}, seen: map[string]map[api.Errno]int{}}
 }
 
 func (v *drive) saw(call string, e api.Errno) {
@@ -321,21 +355,33 @@ func (v *drive) saw(call string, e api.Errno) {
 	v.seen[call][e]++
 }
 
+// answer holds an answer against the model's. A call may be lost if the disk is stopped, and then each that the model would answer OK is.
+func (v *drive) answer(call string, got, want api.Errno) {
+	v.t.Helper()
+	down := want == api.OK && v.d.Stopped() && (v.lost || got == api.ErrDown)
+	if down {
+		want = api.ErrDown
+	}
+	if got != want {
+		v.t.Fatalf("%s = %d, want %d", call, got, want)
+	}
+	v.lost = v.lost || down
+	v.saw(call, want)
+}
+
 func (v *drive) ingest() {
 	series, at, value := v.r.Intn(6)-1, v.o.now-v.r.Intn(v.o.c.Lag+4)+2, int32(v.r.Uint32())
 	want := v.o.ingest(series, at, value)
-	ingest(v.t, v.m, series, at, value, want)
 	if want == api.OK {
 		v.marks = append(v.marks, v.o.spotOf(-1, series, at))
 	}
-	v.saw("Ingest", want)
+	v.answer("P4: Ingest", v.m.Ingest(series, at, value), want)
 }
 
 func (v *drive) tick() {
 	n := v.r.Intn(8) - 1
 	want := v.o.tick(n)
-	tick(v.t, v.m, n, want)
-	v.saw("Tick", want)
+	v.answer("P5: Tick", v.m.Tick(n), want)
 }
 
 func (v *drive) query() {
@@ -348,19 +394,23 @@ func (v *drive) query() {
 	}
 	cell, want := v.o.query(tier, series, window)
 	query(v.t, v.m, tier, series, window, cell, want)
-	v.saw("Query", want)
+	v.saw("P6: Query", want)
 }
 
 func (v *drive) pick() {
 	slot := v.r.Intn(v.o.c.Slots+2) - 1
 	job, want := v.o.pick(slot)
-	if got, e := v.m.Pick(slot); got != job || e != want {
-		v.t.Fatalf("P7: Pick(%d) = %+v, %d, want %+v, %d", slot, got, e, job, want)
+	got, e := v.m.Pick(slot)
+	v.answer("P7: Pick", e, want)
+	if e == api.ErrDown {
+		job = api.Job{}
 	}
-	if want == api.OK {
+	if got != job {
+		v.t.Fatalf("P7: Pick(%d) = %+v, want %+v", slot, got, job)
+	}
+	if e == api.OK {
 		v.tokens = append(v.tokens, job.Token)
 	}
-	v.saw("Pick", want)
 }
 
 // token is mostly one of a lease, else one of the last that were given, or beside these.
@@ -383,15 +433,13 @@ func (v *drive) token() api.Token {
 func (v *drive) commit() {
 	k := v.token()
 	want := v.o.commit(k)
-	commit(v.t, v.m, k, want)
-	v.saw("Commit", want)
+	v.answer("P8: Commit", v.m.Commit(k), want)
 }
 
 func (v *drive) fail() {
 	k := v.token()
 	want := v.o.fail(k)
-	fail(v.t, v.m, k, want)
-	v.saw("Fail", want)
+	v.answer("P8: Fail", v.m.Fail(k), want)
 }
 
 func (v *drive) call() {
@@ -441,10 +489,8 @@ func (v *drive) unready() {
 func TestAgainstModel(t *testing.T) {
 	seen := map[string]map[api.Errno]int{}
 	for seed := range int64(150) {
-		r := rand.New(rand.NewSource(seed))
-		c := someConfig(r)
-		m := open(t, c, disk.New())
-		v := &drive{t: t, r: r, m: m, o: newModel(c, m.Stats().Epoch), tokens: []api.Token{{}}, seen: seen}
+		v := newDrive(t, seed)
+		v.seen = seen
 		for range 300 {
 			v.call()
 			v.compare()
@@ -454,14 +500,20 @@ func TestAgainstModel(t *testing.T) {
 		v.drain()
 		v.compareCells()
 	}
-	for call, answers := range map[string][]api.Errno{
-		"Ingest": {api.OK, api.ErrArg, api.ErrTime, api.ErrLate, api.ErrFull},
-		"Tick":   {api.OK, api.ErrTime},
-		"Query":  {api.OK, api.ErrArg, api.ErrOpen, api.ErrEmpty, api.ErrWait, api.ErrGone},
-		"Pick":   {api.OK, api.ErrSlot, api.ErrIdle},
-		"Commit": {api.OK, api.ErrFenced},
-		"Fail":   {api.OK, api.ErrFenced},
-	} {
+	enough(t, seen, map[string][]api.Errno{
+		"P4: Ingest": {api.OK, api.ErrArg, api.ErrTime, api.ErrLate, api.ErrFull},
+		"P5: Tick":   {api.OK, api.ErrTime},
+		"P6: Query":  {api.OK, api.ErrArg, api.ErrOpen, api.ErrEmpty, api.ErrWait, api.ErrGone},
+		"P7: Pick":   {api.OK, api.ErrSlot, api.ErrIdle},
+		"P8: Commit": {api.OK, api.ErrFenced},
+		"P8: Fail":   {api.OK, api.ErrFenced},
+	})
+}
+
+// enough wants each of these answers to have come often.
+func enough(t *testing.T, seen map[string]map[api.Errno]int, want map[string][]api.Errno) {
+	t.Helper()
+	for call, answers := range want {
 		for _, e := range answers {
 			if seen[call][e] < 100 {
 				t.Errorf("only %d calls of %s were answered %d", seen[call][e], call, e)

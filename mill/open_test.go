@@ -114,15 +114,18 @@ func TestEpochsRise(t *testing.T) {
 	}
 }
 
-// P3: an Open that the disk refuses may be followed by one on what is left.
+// P3, P10: an Open that the disk refuses may be followed by one on what is left.
 func TestOpenOfStopped(t *testing.T) {
-	for steps := range 3 {
+	for steps := range 9 {
 		d := disk.New()
 		before := open(t, example(), d).Stats().Epoch
 		d.Stop(steps)
 		m, e := Open(example(), d)
 		if (m == nil) != (e == api.ErrDown) || m != nil && e != api.OK || steps == 0 && m != nil {
-			t.Fatalf("P3: Open with %d steps left = %v, %d", steps, m, e)
+			t.Fatalf("P10: Open with %d steps left = %v, %d", steps, m, e)
+		}
+		if steps == 8 && m == nil {
+			t.Fatalf("P10: Open with %d steps left is refused", steps)
 		}
 		if m != nil {
 			before = m.Stats().Epoch
@@ -131,6 +134,33 @@ func TestOpenOfStopped(t *testing.T) {
 			if after := open(t, example(), d.Crash(keep)).Stats().Epoch; after <= before {
 				t.Fatalf("P3: epoch %d behind %d", after, before)
 			}
+		}
+	}
+}
+
+// P10: an Open that is answered OK was refused no step: with one step more there is one left.
+func TestOpenRefusedNothing(t *testing.T) {
+	used, torn := disk.New(), disk.New()
+	ingest(t, open(t, example(), used), 0, 0, 7, api.OK)
+	m := open(t, example(), torn)
+	torn.Stop(1)
+	tick(t, m, 1, api.ErrDown)
+	half := used.Crash(0)
+	half.Stop(3)
+	Open(example(), half)
+	for i, d := range []*disk.Disk{disk.New(), used, torn.Crash(2), torn.Crash(100), half.Crash(0), half.Crash(2), half.Crash(100)} {
+		least := 0
+		for ; least < 20; least++ {
+			left := d.Crash(0)
+			left.Stop(least)
+			if m, _ := Open(example(), left); m != nil {
+				break
+			}
+		}
+		left := d.Crash(0)
+		left.Stop(least + 1)
+		if m, e := Open(example(), left); m == nil || e != api.OK || left.Stopped() {
+			t.Errorf("P10: disk %d needs more than the %d steps with which Open = %v, %d", i, least, m, e)
 		}
 	}
 }

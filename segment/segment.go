@@ -31,22 +31,26 @@ const (
 // cellUse is what a segment of a tier uses, from when on it is there.
 const cellUse = 2
 
-// segment has a cell of its own only while it is held or published.
-type segment struct {
-	state State
-	cell  api.Cell
+// HasCell tells whether a segment has a cell of its own.
+func (s State) HasCell() bool { return s == Held || s == Published }
+
+// Segment is how a segment is.
+type Segment struct {
+	Key   Key
+	State State
+	Cell  api.Cell // of noughts, unless its state has one
 }
 
 // Set has the segments that are there. Those that are reclaimed stand apart: the others are few, for they use room, so to go through them does not take the longer the older a mill is.
 type Set struct {
 	layout layout.Layout
-	live   map[Key]segment
+	live   map[Key]Segment
 	gone   map[Key]struct{}
 }
 
 // New makes a set without segments.
 func New(l layout.Layout) *Set {
-	return &Set{layout: l, live: map[Key]segment{}, gone: map[Key]struct{}{}}
+	return &Set{layout: l, live: map[Key]Segment{}, gone: map[Key]struct{}{}}
 }
 
 // Find tells a segment's state, and its cell if it is held or published.
@@ -55,15 +59,15 @@ func (s *Set) Find(k Key) (State, api.Cell) {
 		return Reclaimed, api.Cell{}
 	}
 	found := s.live[k]
-	return found.state, found.cell
+	return found.State, found.Cell
 }
 
 // Used tells how much room is used.
 func (s *Set) Used() int { return lists.Sum(maps.Values(s.live), use) }
 
-func use(g segment) int {
-	if g.state == Held {
-		return g.cell.Count
+func use(g Segment) int {
+	if g.State == Held {
+		return g.Cell.Count
 	}
 	return cellUse
 }
@@ -73,7 +77,7 @@ func (s *Set) Count(state State) int {
 	if state == Reclaimed {
 		return len(s.gone)
 	}
-	return lists.Count(maps.Values(s.live), func(g segment) bool { return g.state == state })
+	return lists.Count(maps.Values(s.live), func(g Segment) bool { return g.State == state })
 }
 
 // Cost tells how much more would be used, were a number added.
@@ -86,7 +90,7 @@ func (s *Set) missing(k Key) bool {
 	return state == Missing
 }
 
-func (s *Set) waits(k Key) bool { return s.live[k].state == Waiting }
+func (s *Set) waits(k Key) bool { return s.live[k].State == Waiting }
 
 // cellsOf goes through the segments of all tiers that a number is in.
 func (s *Set) cellsOf(series, at int) iter.Seq[Key] {
@@ -103,24 +107,23 @@ func (s *Set) key(tier, series, at int) Key {
 	return Key{Tier: tier, Series: series, Window: s.layout.Window(tier, at)}
 }
 
-// Add takes a number whose windows are not closed: none of its segments is published or reclaimed.
-func (s *Set) Add(series, at int, value int32) {
+// Added tells what changes with a number whose windows are not closed: none of its segments is published or reclaimed.
+func (s *Set) Added(series, at int, value int32) []Segment {
 	raw := s.key(layout.Raw, series, at)
 	cells := []api.Cell{{Count: 1, Sum: int64(value), Min: value, Max: value}}
 	if old, ok := s.live[raw]; ok {
-		cells = append(cells, old.cell)
+		cells = append(cells, old.Cell)
 	}
-	s.live[raw] = segment{state: Held, cell: join(cells)}
-	for k := range s.cellsOf(series, at) {
-		if s.missing(k) {
-			s.live[k] = segment{state: Waiting}
-		}
+	changed := []Segment{{Key: raw, State: Held, Cell: join(cells)}}
+	for k := range lists.Where(s.cellsOf(series, at), s.missing) {
+		changed = append(changed, Segment{Key: k, State: Waiting})
 	}
+	return changed
 }
 
-// Publish makes the cell of a segment that waits, of all that it stands on.
-func (s *Set) Publish(k Key) {
-	s.live[k] = segment{state: Published, cell: join(s.standsOn(k))}
+// Rolled tells what becomes of a segment that waits, when its cell is made of all that it stands on.
+func (s *Set) Rolled(k Key) Segment {
+	return Segment{Key: k, State: Published, Cell: join(s.standsOn(k))}
 }
 
 func (s *Set) standsOn(k Key) []api.Cell {
@@ -129,16 +132,37 @@ func (s *Set) standsOn(k Key) []api.Cell {
 	for window := first; window < end; window++ {
 		below, ok := s.live[Key{Tier: from, Series: k.Series, Window: window}]
 		if ok {
-			cells = append(cells, below.cell)
+			cells = append(cells, below.Cell)
 		}
 	}
 	return cells
 }
 
-// Reclaim gives up a segment that is held or published.
-func (s *Set) Reclaim(k Key) {
-	delete(s.live, k)
-	s.gone[k] = struct{}{}
+// Put lets segments be as they are told, whatever they were.
+func (s *Set) Put(changed []Segment) {
+	for _, g := range changed {
+		if g.State == Reclaimed {
+			delete(s.live, g.Key)
+			s.gone[g.Key] = struct{}{}
+		} else {
+			s.live[g.Key] = g
+		}
+	}
+}
+
+// All tells all segments that are there, by tier, series, window.
+func (s *Set) All() []Segment {
+	all := slices.Collect(maps.Values(s.live))
+	for k := range s.gone {
+		all = append(all, Segment{Key: k, State: Reclaimed})
+	}
+	slices.SortFunc(all, func(a, b Segment) int { return Order(a.Key, b.Key) })
+	return all
+}
+
+// Order goes by tier, then series, window.
+func Order(a, b Key) int {
+	return cmp.Or(cmp.Compare(a.Tier, b.Tier), cmp.Compare(a.Series, b.Series), cmp.Compare(a.Window, b.Window))
 }
 
 // Rollable goes through the segments whose cell can be made: they wait and are closed, and none that they stand on waits.
